@@ -1,0 +1,79 @@
+"""What several tests use: wrong things of every kind, and what a call raises."""
+
+import copy
+
+
+class Touchy:
+    """A thing that bears no question but that for its kind."""
+
+    def refuse(self, *told):
+        raise AssertionError("a thing of an unknown kind was asked for more than its kind")
+
+    __eq__ = __ne__ = __lt__ = __le__ = __gt__ = __ge__ = refuse
+    __hash__ = __len__ = __iter__ = __getitem__ = __contains__ = refuse
+    __bool__ = __int__ = __index__ = __float__ = __str__ = __repr__ = refuse
+
+
+def no_numbers():
+    """Things that are no whole numbers, of every kind."""
+    return [
+        None, True, False, "", "3", "three", b"", b"3", bytearray(b"3"), 3.0, 4.5, float("nan"), float("inf"), 3j,
+        [], [3], [[1, 2]], (), (3,), {}, {3: 3}, set(), {3}, frozenset([3]), range(3), iter([3]), (k for k in [3]),
+        int, len, lambda: 3, object(), Ellipsis, NotImplemented, ValueError(3), Touchy(), Touchy,
+    ]
+
+
+def no_lists():
+    """Things that are no lists, of every kind."""
+    wrong = [thing for thing in no_numbers() if not isinstance(thing, list)]
+    return wrong + [0, 1, 3, -1, 10 ** 60, (1, 2, 3), ([1, 2],), "123", b"\1\2\3", {1: 1, 2: 2, 3: 3}, {1, 2, 3},
+                    range(1, 4), iter([1, 2, 3]), (k for k in [1, 2, 3])]
+
+
+def no_counts():
+    """Things that are no whole numbers from 3 to 40."""
+    return no_numbers() + [0, 1, 2, -1, -3, -40, 41, 42, 100, 10 ** 60, -10 ** 60, 10 ** 3999, -10 ** 3999]
+
+
+def no_members(most):
+    """Things that are no whole numbers from 1 to `most`."""
+    return no_numbers() + [0, -1, -most, most + 1, most + 2, 10 ** 60, -10 ** 60, 10 ** 3999, -10 ** 3999]
+
+
+def raised(function, *told, **named):
+    """The error that a call raises."""
+    try:
+        function(*told, **named)
+    except Exception as error:
+        return error
+    raise AssertionError("no error was raised")
+
+
+def lists_in(thing):
+    """All list objects in a result, as often as they occur."""
+    found = [thing] if isinstance(thing, list) else []
+    if isinstance(thing, (list, tuple)):
+        for one in thing:
+            found += lists_in(one)
+    return found
+
+
+def check_result(case, function, *told):
+    """A result is new, each of its lists occurs once, later changes to it have no effect, and nothing passed is changed."""
+    kept = copy.deepcopy(told)
+    inner = [list(map(id, one)) for one in lists_in(list(told))]
+    first = function(*told)
+    wanted = copy.deepcopy(first)
+    own = lists_in(first)
+    passed = [id(one) for one in lists_in(list(told))]
+    case.assertEqual(len({id(one) for one in own}), len(own), "a list object occurs twice")
+    case.assertFalse({id(one) for one in own} & set(passed), "a list that was passed is returned")
+    for one in own:
+        one[:] = ["changed"]
+    second = function(*told)
+    case.assertEqual(second, wanted)
+    case.assertIs(type(second), type(wanted))
+    case.assertFalse({id(one) for one in own} & {id(one) for one in lists_in(second)}, "a list is returned again")
+    case.assertEqual(told, kept)
+    case.assertEqual([list(map(id, one)) for one in lists_in(list(told))], inner)
+    return wanted
