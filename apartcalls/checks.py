@@ -1,15 +1,22 @@
 """The checks of what is handed in: each ends quietly, or raises the error that is due."""
 
-from apartcalls.errors import InvalidBreaks, InvalidNumber, InvalidOrder, InvalidTies
+from apartcalls.errors import (
+    InvalidBreaks, InvalidCalls, InvalidNumber, InvalidOrder, InvalidStanding, InvalidTies, UnknownCall,
+)
 
 LEAST_COUNT = 3
 MOST_COUNT = 40
 
 
+def is_whole(thing):
+    """Whether a thing is a whole number."""
+    # To Python True is the int 1; here it is no whole number.
+    return isinstance(thing, int) and not isinstance(thing, bool)
+
+
 def is_from_one(thing, most):
     """Whether a thing is a whole number from 1 to `most`."""
-    # To Python True is the int 1; here it is no whole number.
-    return isinstance(thing, int) and not isinstance(thing, bool) and 1 <= thing <= most
+    return is_whole(thing) and 1 <= thing <= most
 
 
 def first_wrong(things, most):
@@ -48,6 +55,21 @@ def check_ties(ties, seats):
         tied.add(pair)
 
 
+def check_net(seats, ties):
+    """The seats and the ties of a net."""
+    check_count(seats)
+    check_ties(ties, seats)
+
+
+def check_standing(standing, seats):
+    """A standing on so many seats; `seats` is checked already."""
+    if not isinstance(standing, list) or len(standing) != seats:
+        raise InvalidStanding(None)
+    wrong = first_wrong(standing, seats)
+    if wrong is not None:
+        raise InvalidStanding(wrong)
+
+
 def check_order_of(order, count):
     """An order of so many calls; `count` is checked already."""
     if not isinstance(order, list) or len(order) != count:
@@ -71,3 +93,24 @@ def check_broken(broken, count):
     wrong = first_wrong(broken, count)
     if wrong is not None:
         raise InvalidBreaks(wrong)
+
+
+def check_call(number, count):
+    """One of so many calls; `count` is checked already."""
+    if not is_from_one(number, count):
+        raise UnknownCall(number)
+
+
+def check_calls(calls, count):
+    """A list of some of so many calls; `count` is checked already."""
+    if not isinstance(calls, list):
+        raise InvalidCalls(None)
+    for at, call in enumerate(calls):
+        if not is_from_one(call, count):
+            raise InvalidCalls(at)
+
+
+def check_many(many):
+    """A number of rounds, forwards or backwards."""
+    if not is_whole(many):
+        raise InvalidNumber(many)

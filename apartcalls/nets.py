@@ -1,12 +1,28 @@
 """Nets: seats, some pairs of which are tied."""
 
-from apartcalls.checks import check_count, check_ties
+from apartcalls.checks import check_net
 
 
 def parts(seats, ties):
     """The parts of a net, each the list of its seats, ascending, in the order of their least seats."""
-    check_count(seats)
-    check_ties(ties, seats)
+    check_net(seats, ties)
+    return parts_of(seats, ties)
+
+
+def is_wood(seats, ties):
+    """Whether a net has no ring."""
+    check_net(seats, ties)
+    return is_wood_of(seats, ties)
+
+
+def is_row(seats, ties):
+    """Whether a net is a tree in which no seat is tied to more than two others."""
+    check_net(seats, ties)
+    return is_row_of(seats, ties)
+
+
+def parts_of(seats, ties):
+    """The parts of a net that is checked already."""
     least = least_together(seats, ties)
     return [
         [seat for seat in range(1, seats + 1) if least[seat] == first]
@@ -15,15 +31,15 @@ def parts(seats, ties):
     ]
 
 
-def is_wood(seats, ties):
-    """Whether a net has no ring."""
+def is_wood_of(seats, ties):
+    """Whether a net that is checked already has no ring."""
     # Put in one after the other, each tie makes one part of two, except those that close a ring.
-    return len(parts(seats, ties)) == seats - len(ties)
+    return len(parts_of(seats, ties)) == seats - len(ties)
 
 
-def is_row(seats, ties):
-    """Whether a net is a tree in which no seat is tied to more than two others."""
-    if len(parts(seats, ties)) != 1 or len(ties) != seats - 1:
+def is_row_of(seats, ties):
+    """Whether a net that is checked already is a row."""
+    if len(ties) != seats - 1 or not is_wood_of(seats, ties):
         return False
     ends = [seat for tie in ties for seat in tie]
     return all([ends.count(seat) <= 2 for seat in range(1, seats + 1)])
@@ -34,5 +50,6 @@ def least_together(seats, ties):
     least = list(range(seats + 1))
     for one, two in ties:
         low, high = sorted([least[one], least[two]])
-        least = [low if seat == high else seat for seat in least]
+        if low != high:
+            least = [low if seat == high else seat for seat in least]
     return least

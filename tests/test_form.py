@@ -78,7 +78,8 @@ class TestForm(unittest.TestCase):
     def test_builtins(self):
         for path, tree in trees():
             for node in ast.walk(tree):
-                if isinstance(node, ast.Name) and hasattr(builtins, node.id):
+                # Python's shell, and what runs examples, make a builtin of the name that is never read.
+                if isinstance(node, ast.Name) and node.id != "_" and hasattr(builtins, node.id):
                     self.assertIn(node.id, BUILTINS, path)
                     self.assertIsInstance(node.ctx, ast.Load, path)
                 if isinstance(node, ast.arg):

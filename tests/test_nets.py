@@ -6,19 +6,12 @@ from itertools import combinations, permutations
 
 from apartcalls.errors import InvalidNumber, InvalidTies
 from apartcalls.nets import is_row, is_wood, parts
+from tests.model import nets
 from tests.things import Touchy, check_result, no_counts, no_lists, no_members, raised
 
 ALL = [parts, is_wood, is_row]
 ROW40 = [[seat, seat + 1] for seat in range(1, 40)]
 FULL40 = [list(pair) for pair in combinations(range(1, 41), 2)]
-
-
-def nets(seats):
-    """The ties of all nets of so many seats."""
-    pairs = list(combinations(range(1, seats + 1), 2))
-    for many in range(len(pairs) + 1):
-        for some in combinations(pairs, many):
-            yield [list(pair) for pair in some]
 
 
 def reach(seats, ties):

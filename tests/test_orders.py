@@ -7,38 +7,12 @@ from math import comb, factorial
 
 from apartcalls.errors import InvalidBreaks, InvalidNumber, InvalidOrder
 from apartcalls.orders import are_alike, breaks, count_alike, least_order, order_counts
+from tests.model import all_broken, breaks_by_words, next_to, orders, orders_by_breaks
 from tests.things import Touchy, check_result, no_counts, no_lists, no_members, raised
 
 UP40 = list(range(1, 41))
 ODDS = list(range(1, 41, 2))
 EVENS = list(range(2, 41, 2))
-
-
-def next_to(call, count):
-    return 1 if call == count else call + 1
-
-
-def breaks_by_words(order):
-    count = len(order)
-    return [call for call in range(1, count + 1) if order.index(call) > order.index(next_to(call, count))]
-
-
-def orders(count):
-    return [list(order) for order in permutations(range(1, count + 1))]
-
-
-def orders_by_breaks(count):
-    """All orders of so many calls, ascending, by their breaks."""
-    found = {}
-    for order in orders(count):
-        found.setdefault(tuple(breaks_by_words(order)), []).append(order)
-    return found
-
-
-def all_broken(count):
-    for many in range(1, count):
-        for broken in combinations(range(1, count + 1), many):
-            yield list(broken)
 
 
 def reached_by_swaps(order):

@@ -77,3 +77,45 @@ def check_result(case, function, *told):
     case.assertEqual(told, kept)
     case.assertEqual([list(map(id, one)) for one in lists_in(list(told))], inner)
     return wanted
+
+
+def no_standings(count):
+    """Pairs of a thing that is no list of the numbers 1 to `count`, each once, and the index that is to be told."""
+    up = list(range(1, count + 1))
+    wrong = [(thing, None) for thing in no_lists()]
+    wrong += [(list(range(1, many + 1)), None) for many in (0, 1, count - 1, count + 1, 100)]
+    wrong += [([None] * many, None) for many in (1, count - 1, count + 1)]
+    for at in (0, 1, count - 1):
+        wrong += [(up[:at] + [thing] + up[at + 1:], at) for thing in no_members(count)]
+    wrong += [([1, 1] + up[2:], 1), (up[:-1] + [1], count - 1), ([count] + up[1:], count - 1), ([2] * count, 1)]
+    # Several wrong things in one list: the first one is told, whatever is wrong with it.
+    wrong += [
+        ([1, 1, None] + up[3:], 1), ([1, None, 1] + up[3:], 1), ([2, 2, Touchy()] + up[3:], 1),
+        ([True, 1, 1] + up[3:], 0), ([1, True, 1] + up[3:], 1), ([0, 0, 0] + up[3:], 0),
+        ([2, count + 1, 2] + up[3:], 1), ([3, 2, 3] + [Touchy()] * (count - 3), 2),
+    ]
+    within = up[:-1]
+    within.append(within)
+    return wrong + [(within, count - 1)]
+
+
+def no_nets():
+    """Pairs of a thing that is no list of ties of a net of 4 seats, and the index that is to be told."""
+    wrong = [(thing, None) for thing in no_lists()]
+    wrong += [([[1, 2], thing, [3, 4]], 1) for thing in no_lists()]
+    wrong += [([[2, 3], [thing, 1]], 1) for thing in no_members(4)]
+    wrong += [([[1, 3], tie], 1) for tie in ([], [1], [1, 2, 3], [1, 1], [3, 1], [1, 3], [[1, 2]])]
+    return wrong + [([[1, 2], [2, 1], None], 1), ([[1, 2], None, [2, 1]], 1), ([[4, 3], [3, 4], Touchy()], 1)]
+
+
+def check_index(case, error, kind, index):
+    """An error is of this kind and tells this index."""
+    case.assertIs(error.__class__, kind)
+    case.assertIs(error.index.__class__, index.__class__)
+    case.assertEqual(error.index, index)
+
+
+def check_number(case, error, kind, thing):
+    """An error is of this kind and tells this thing itself."""
+    case.assertIs(error.__class__, kind)
+    case.assertIs(error.number, thing)
