@@ -16,7 +16,8 @@ def is_whole(thing):
 
 def is_from_one(thing, most):
     """Whether a thing is a whole number from 1 to `most`."""
-    return is_whole(thing) and 1 <= thing <= most
+    # Asked for each thing of each list, so it does not go by way of `is_whole`.
+    return isinstance(thing, int) and not isinstance(thing, bool) and 1 <= thing <= most
 
 
 def first_wrong(things, most):

@@ -1,5 +1,8 @@
 """Orders of calls, and the breaks that tell which of them are alike."""
 
+from heapq import heappop, heappush
+from math import comb
+
 from apartcalls.checks import check_broken, check_count, check_order, check_order_of
 
 
@@ -13,11 +16,20 @@ def least_order(count, broken):
     """The least order of so many calls with just these breaks."""
     check_count(count)
     check_broken(broken, count)
-    ahead = calls_ahead(count, broken)
+    behind = calls_behind(count, broken)
+    # Of the two neighbours of a call, those that do not stand behind it stand ahead of it.
+    waits = {call: 2 - len(behind[call]) for call in behind}
+    # Ascending, the free calls are a heap from the first.
+    free = [call for call in behind if waits[call] == 0]
     order = []
     while len(order) < count:
         # Any call that is free now can be made now, so the least one makes the least list.
-        order.append(least_free(order, ahead))
+        call = heappop(free)
+        order.append(call)
+        for other in behind[call]:
+            waits[other] -= 1
+            if waits[other] == 0:
+                heappush(free, other)
     return order
 
 
@@ -31,15 +43,18 @@ def are_alike(order, other):
 def count_alike(order):
     """The number of orders with the same breaks as an order, itself too."""
     check_order(order)
+    count = len(order)
     broken = breaks_of(order)
-    falls = [call in broken for call in range(1, len(order) + 1)]
-    # Each alike order is counted by its first call, which stands ahead of both its neighbours in any case: so the
-    # clock is cut open there, and the other calls are left in a line.
-    return sum([
-        count_lines((falls[at + 1:] + falls[:at])[:-1])
-        for at, fall in enumerate(falls)
-        if falls[at - 1] and not fall
-    ])
+    if 2 * len(broken) > count:
+        # Read from the last call to the first one, alike orders have the other calls as breaks: they are as many, and
+        # sooner counted.
+        broken = breaks_of(order[::-1])
+    found = 0
+    for at in reversed(range(len(broken))):
+        # The clock is cut open behind a break. The lines of all calls with just the later breaks are the orders in
+        # which it is a break too, and those in which it is none: the latter are those that were found just ahead.
+        found = count_lines(broken[at:] + [broken[at] + count]) - found
+    return found
 
 
 def order_counts(count):
@@ -66,27 +81,33 @@ def breaks_of(order):
     return [call for call in range(1, count + 1) if place[call] > place[next_call(call, count)]]
 
 
-def calls_ahead(count, broken):
-    """For each call, those of its neighbours that stand ahead of it."""
-    ahead = {call: [] for call in range(1, count + 1)}
+def calls_behind(count, broken):
+    """For each call, those of its neighbours that stand behind it."""
+    behind = {call: [] for call in range(1, count + 1)}
     for call in range(1, count + 1):
         follower = next_call(call, count)
         if call in broken:
-            ahead[call].append(follower)
+            behind[follower].append(call)
         else:
-            ahead[follower].append(call)
-    return ahead
+            behind[call].append(follower)
+    return behind
 
 
-def least_free(order, ahead):
-    """The least call that is not in the order yet, while all that stand ahead of it are."""
-    return min([call for call in ahead if call not in order and all([one in order for one in ahead[call]])])
-
-
-def count_lines(falls):
-    """The number of ways to place a line of calls, each one behind (fall) or ahead of the next one, as told."""
-    # Of the calls so far, as many ways as stand at an index have the last one at that place among them.
+def count_lines(ends):
+    """The number of ways to place the calls behind the first end up to the last one, with just the others as breaks."""
     ways = [1]
-    for fall in falls:
-        ways = [sum(ways[place:]) if fall else sum(ways[:place]) for place in range(len(ways) + 1)]
-    return sum(ways)
+    while len(ways) < len(ends):
+        ways.append(count_longer_lines(ends[:len(ways) + 1], ways))
+    return ways[-1]
+
+
+def count_longer_lines(ends, ways):
+    """As `count_lines`, by the ways that there are up to each end but the last one."""
+    first = ends[0]
+    last = ends[-1]
+    lines = 0
+    for end, shorter in zip(ends, ways):
+        # The calls behind this end, none of them a break, are put in anyhow among those up to it: so it is a break, or
+        # none, as in the lines that were counted just ahead.
+        lines = comb(last - first, last - end) * shorter - lines
+    return lines
